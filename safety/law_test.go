@@ -73,48 +73,6 @@ func TestSpanAndLongest(t *testing.T) {
 	}
 }
 
-// P6.11, over heads as chapter 7 tells them: from settled heads it takes just Span steps, from any others at most Longest.
-func TestHeadsTakeAsLong(t *testing.T) {
-	t.Parallel()
-	r := rand.New(rand.NewSource(611))
-	later := 0
-	for range 6000 {
-		tables := anyTables(r, 1+r.Intn(6), true)
-		from, to := anyMask(r, tables, true), anyMask(r, tables, true)
-		n := both(t, tables, from, to)
-		want := setOf(tables, to)
-		if steps := stepsTo(tables, lampsOn(r, tables, from, 9), want, 99); steps != n[0] {
-			t.Fatalf("%d steps, Span is %d of %x, %x in %+v", steps, n[0], from, to, tables)
-		}
-		steps := stepsTo(tables, lampsOn(r, tables, from, 1), want, 99)
-		if steps < 0 || steps > n[1] {
-			t.Fatalf("%d steps, Longest is %d of %x, %x in %+v", steps, n[1], from, to, tables)
-		}
-		if steps > n[0] {
-			later++
-		}
-	}
-	if later < 500 {
-		t.Errorf("only %d took longer than Span", later)
-	}
-}
-
-// lampsOn are lamps settled on a mask, its groups green for their Min at least, all others not green for so long at least.
-func lampsOn(r *rand.Rand, t api.Tables, mask uint64, away int) []lamp {
-	var lamps []lamp
-	for g, in := range setOf(t, mask) {
-		switch {
-		case g == len(t.Groups):
-			return lamps
-		case in:
-			lamps = append(lamps, lamp{api.Green, t.Groups[g].Min + r.Intn(3), 0})
-		default:
-			lamps = append(lamps, lamp{api.Red, 1 + r.Intn(9), away + pick(r, 0, 0, 1, 5)})
-		}
-	}
-	return lamps
-}
-
 // unreachedChanged is a plan whose stages that are not reached do other things and go elsewhere.
 func unreachedChanged(r *rand.Rand, p api.Typed) api.Typed {
 	reached := modelReach(p)
